@@ -1,0 +1,1 @@
+"""A memory of translations."""
