@@ -2,9 +2,19 @@
 
 from translations.memory import answers
 
+TOP = 4294967295
+
 
 def ask(sentence, ahead=1, behind=2, client=3):
     return (ahead, behind, client, list(sentence))
+
+
+WRONG_SENTENCES = ([1] * 21, [1] * 25, [10000], [1] * 19 + [10000], [10000] + [1] * 19, [TOP], [TOP] * 25)
+WRONG_ASKS = (
+    ask([]), *[ask(words) for words in WRONG_SENTENCES],
+    ask([1], ahead=10000), ask([1], ahead=TOP), ask([1], behind=10000), ask([1], behind=TOP),
+    ask([1], client=100), ask([1], client=TOP), ask([], 10000, 10000, 100),
+)
 
 
 def row(words):
@@ -38,6 +48,26 @@ def way(number, sentence):
 
 def with_word(word):
     return [5, word]
+
+
+def fill(least, asks):
+    return [6, least, len(asks)] + row(flat([told(an_ask) for an_ask in asks]))
+
+
+def entry(number):
+    return [7, number]
+
+
+def count():
+    return [8]
+
+
+def undo():
+    return [9]
+
+
+def near(sentence, other):
+    return [10] + row(sentence) + row(other)
 
 
 def flat(calls):

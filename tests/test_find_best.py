@@ -3,10 +3,8 @@
 import random
 import unittest
 
-from tests.helper import ask, best, find, last, put, run, take
-from translations.sentences import nearness_of
-
-TOP = 4294967295
+from tests.helper import TOP, WRONG_ASKS, ask, best, find, last, put, run, take
+from tests.model import Model
 
 
 def score(entry_ask, other):
@@ -125,30 +123,13 @@ class Find(unittest.TestCase):
             words = [chance.randrange(3) for _ in range(chance.randint(1, 4))]
             return ask(words, chance.randrange(2), chance.randrange(2), chance.randrange(2))
 
-        entries, calls = {}, []
-        for number in range(1, 21):
+        model, calls = Model(), []
+        for _ in range(20):
             an_ask, translation = some_ask(), [chance.randrange(6)]
             calls.append(put(an_ask, translation))
-            entries = {key: kept for key, kept in entries.items() if kept[0] != an_ask}
-            entries[number] = (an_ask, translation)
+            model.put(an_ask, translation)
         wanted, least = some_ask(), chance.choice((0, 1, 30, 50, 97, 98, 100, 102))
-        self.assertEqual(last(*calls, find(least, wanted)), expected(entries, least, wanted))
-
-
-def expected(entries, least, wanted):
-    scored = []
-    for number, (an_ask, translation) in entries.items():
-        same = {0: 100, 1: 101, 2: 102}[(an_ask[0] == wanted[0]) + (an_ask[1] == wanted[1])]
-        points = same if an_ask[3] == wanted[3] else nearness_of(an_ask[3], wanted[3])
-        points = points if an_ask[2] == wanted[2] else max(0, points - 3)
-        if points >= least:
-            scored.append((-points, -number, translation))
-    told, seen = [], set()
-    for points, number, translation in sorted(scored):
-        if tuple(translation) not in seen:
-            seen.add(tuple(translation))
-            told += [-points, -number]
-    return [len(told) // 2] + told
+        self.assertEqual(last(*calls, find(least, wanted)), model.find(least, wanted))
 
 
 class Best(unittest.TestCase):
@@ -175,12 +156,6 @@ class Best(unittest.TestCase):
 
 
 class Refused(unittest.TestCase):
-    wrong = (
-        ask([]), ask([1] * 21), ask([1] * 25), ask([10000]), ask([1] * 19 + [10000]), ask([TOP]),
-        ask([1], ahead=10000), ask([1], ahead=TOP), ask([1], behind=10000), ask([1], behind=TOP),
-        ask([1], client=100), ask([1], client=TOP), ask([], 10000, 10000, 100),
-    )
-
     def test_edges_are_not_refused(self):
         for words in ([0], [9999], [9999] * 20):
             an_ask = ask(words, 9999, 9999, 99)
@@ -188,7 +163,7 @@ class Refused(unittest.TestCase):
             self.assertEqual(last(put(ask([5]), [6]), best(an_ask)), [0, 1, 1, 6])
 
     def test_wrong_asks(self):
-        for an_ask in self.wrong:
+        for an_ask in WRONG_ASKS:
             told = run(put(ask([1]), [5]), find(0, an_ask), best(an_ask), best(ask([1])), put(ask([2]), [6]))
             self.assertEqual(told, [[1, 1], [-1], [-1], [102, 1, 1, 5], [2, 2]], an_ask)
 
@@ -199,7 +174,7 @@ class Refused(unittest.TestCase):
             self.assertEqual(last(put(ask([1]), [5]), find(least, ask([]))), [-1])
 
     def test_wrong_asks_of_an_empty_memory(self):
-        for an_ask in self.wrong:
+        for an_ask in WRONG_ASKS:
             self.assertEqual(run(find(0, an_ask), best(an_ask)), [[-1], [-1]])
 
     def test_best_of_an_empty_memory(self):

@@ -3,7 +3,7 @@
 import itertools
 import unittest
 
-from tests.helper import ask, best, find, flat, put, run, take, way, with_word
+from tests.helper import TOP, ask, best, entry, fill, find, flat, near, put, run, take, undo, way, with_word
 from translations.memory import answers
 
 LINE = [
@@ -16,6 +16,20 @@ LINE = [
     1, 1,
     1, 1,
     4, 2, 0,
+    6, 60, 3, 18, 7, 8, 9, 2, 1, 2, 7, 8, 9, 1, 4, 7, 8, 9, 3, 1, 2, 3,
+    6, 0, 0, 0,
+    7, 2,
+    7, 1,
+    8,
+    9,
+    7, 1,
+    9,
+    9,
+    9,
+    8,
+    10, 0, 0,
+    10, 3, 1, 2, 3, 2, 1, 2,
+    6, 103, 1, 5, 7, 8, 9, 1, 4,
 ]
 ANSWERS = [
     2, 1, 1,
@@ -27,6 +41,20 @@ ANSWERS = [
     1, 1,
     1, -2,
     4, 2, 2, 2, 2,
+    7, 2, 102, 2, 0, 0, 66, 2,
+    1, 0,
+    8, 7, 8, 9, 2, 1, 2, 1, 60,
+    1, -2,
+    3, 1, 1, 3,
+    1, 2,
+    10, 7, 8, 9, 3, 1, 2, 3, 2, 50, 51,
+    1, 1,
+    1, 0,
+    1, -7,
+    3, 0, 0, 3,
+    2, 0, 100,
+    2, 1, 66,
+    1, -1,
 ]
 
 
@@ -41,11 +69,28 @@ class Interface(unittest.TestCase):
         self.assertEqual(answers([3, 0, 0, 0, 1, 0]), [1, -6])
         self.assertEqual(answers([4, 0, 0]), [1, -2])
         self.assertEqual(answers([5, 0]), [1, 0])
+        self.assertEqual(answers([6, 0, 1, 5, 0, 0, 0, 1, 0]), [3, 0, 0, 0])
+        self.assertEqual(answers([7, 0]), [1, -2])
+        self.assertEqual(answers([8]), [3, 0, 0, 1])
+        self.assertEqual(answers([9]), [1, -7])
+        self.assertEqual(answers([10, 0, 0]), [2, 0, 100])
 
     def test_rows_without_numbers_and_with_25(self):
         self.assertEqual(answers([0, 0, 0, 0, 0, 0, 5, 1]), [1, -1, 1, 0])
         self.assertEqual(answers([0, 0, 0, 0, 25] + [5] * 25 + [25] + [5] * 25 + [5, 5]), [1, -1, 1, 0])
         self.assertEqual(answers([2, 0, 0, 0, 0, 25] + [5] * 25 + [3, 0, 0, 0, 0, 5, 5]), [1, -1, 1, -1, 1, 0])
+        self.assertEqual(answers([10, 25] + [9] * 25 + [25] + [9] * 25 + [9]), [1, -1, 1, -7])
+        self.assertEqual(answers([10, 0, 25] + [9] * 25 + [10, 25] + [9] * 25 + [0, 9]), [1, -1, 1, -1, 1, -7])
+
+    def test_asks_without_numbers_and_with_300(self):
+        self.assertEqual(answers([6, 0, 0, 0, 8]), [1, 0, 3, 0, 0, 1])
+        self.assertEqual(answers([6, 0, 75, 300] + [0] * 300 + [8]), [1, -1, 3, 0, 0, 1])
+        self.assertEqual(answers([6, 0, 12, 300] + ([8, 8, 8, 21] + [8] * 21) * 12 + [8]), [1, -1, 3, 0, 0, 1])
+
+    def test_the_longest_list(self):
+        longest = [6, 102, 75, 300] + [TOP, TOP, TOP, 0] * 75
+        self.assertEqual(len(longest * 30), 9120)
+        self.assertEqual(answers(longest * 30), [1, -1] * 30)
 
     def test_whole_numbers_in_a_list(self):
         given = answers(LINE)
@@ -53,7 +98,9 @@ class Interface(unittest.TestCase):
         self.assertEqual({type(number) for number in given}, {int})
 
     def test_only_refusals_are_below_0(self):
-        for answer in run(put(ask([1]), [2]), put(ask([]), [2]), take(5), best(ask([4])), way(1, []), way(9, [])):
+        right = (put(ask([1]), [2]), best(ask([4])), way(1, []), fill(0, [ask([4])]), entry(1), near([], [1]))
+        wrong = (put(ask([]), [2]), take(5), way(9, []), fill(0, [ask([])]), entry(5), near([], [TOP]))
+        for answer in run(*right, *wrong, undo(), undo()):
             self.assertTrue(min(answer) >= 0 or (len(answer) == 1 and answer[0] < 0))
 
     def test_what_is_handed_in_is_not_changed(self):
@@ -84,7 +131,7 @@ class Interface(unittest.TestCase):
 
     def test_nothing_is_kept_after_refusals(self):
         answers(flat([put(ask([1]), [2]), put(ask([]), [2]), take(7)]))
-        self.assertEqual(run(take(1), with_word(1)), [[-2], [0]])
+        self.assertEqual(run(take(1), with_word(1), undo()), [[-2], [0], [-7]])
 
 
 class Orders(unittest.TestCase):

@@ -2,11 +2,9 @@
 
 import unittest
 
-from tests.helper import ask, best, find, last, put, run, take, way, with_word
+from tests.helper import TOP, ask, best, find, last, put, run, take, way, with_word
 from translations.entries import Ask
 from translations.store import Store
-
-TOP = 4294967295
 
 
 class Put(unittest.TestCase):

@@ -1,40 +1,11 @@
 """'Sentences': the distance, how near two are, and the one way that is told."""
 
-import functools
 import itertools
 import random
 import unittest
 
+from tests.model import EXCHANGED, KEPT, PUT_IN, TAKEN_OUT, least_price, way_as_told
 from translations.sentences import distance_between, is_sentence, nearness_of, way_between
-
-KEPT, EXCHANGED, TAKEN_OUT, PUT_IN = 0, 1, 2, 3
-
-
-@functools.lru_cache(maxsize=None)
-def least_price(first, second):
-    """The least price, by trying each step at the front."""
-    if not first or not second:
-        return len(first) + len(second)
-    prices = [1 + least_price(first[1:], second), 1 + least_price(first, second[1:])]
-    prices.append((first[0] != second[0]) + least_price(first[1:], second[1:]))
-    return min(prices)
-
-
-def way_as_told(first, second):
-    """The way, in the words of the document."""
-    steps = []
-    while first or second:
-        here = least_price(first, second)
-        both = bool(first) and bool(second)
-        if both and first[-1] == second[-1] and least_price(first[:-1], second[:-1]) == here:
-            steps, first, second = [KEPT] + steps, first[:-1], second[:-1]
-        elif both and least_price(first[:-1], second[:-1]) == here - 1:
-            steps, first, second = [EXCHANGED] + steps, first[:-1], second[:-1]
-        elif first and least_price(first[:-1], second) == here - 1:
-            steps, first = [TAKEN_OUT] + steps, first[:-1]
-        else:
-            steps, second = [PUT_IN] + steps, second[:-1]
-    return steps
 
 
 def leads_there(steps, first, second):

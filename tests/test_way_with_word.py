@@ -2,9 +2,7 @@
 
 import unittest
 
-from tests.helper import ask, best, last, put, run, take, way, with_word
-
-TOP = 4294967295
+from tests.helper import TOP, WRONG_SENTENCES, ask, best, last, put, run, take, way, with_word
 
 
 class Way(unittest.TestCase):
@@ -44,12 +42,12 @@ class Way(unittest.TestCase):
         self.assertEqual(run(way(1, [1])), [[-2]])
 
     def test_wrong_sentence(self):
-        for words in ([1] * 21, [1] * 25, [10000], [1] * 19 + [10000], [TOP]):
+        for words in WRONG_SENTENCES:
             told = run(put(ask([1]), [5]), way(1, words), best(ask([1])), put(ask([2]), [6]))
             self.assertEqual(told, [[1, 1], [-1], [102, 1, 1, 5], [2, 2]])
 
     def test_the_refusal_told_first(self):
-        for words in ([1] * 21, [10000]):
+        for words in WRONG_SENTENCES:
             self.assertEqual(run(put(ask([1]), [5]), way(2, words)), [[1, 1], [-2]])
             self.assertEqual(run(way(1, words)), [[-2]])
 

@@ -65,6 +65,13 @@ def hits_for(entries, least, ask):
     return first_of_each_translation(ordered)
 
 
+def first_told(entries, least, ask):
+    hits = hits_for(entries, least, ask)
+    if len(hits) == 0:
+        return [0, 0]
+    return [hits[0].score, hits[0].number]
+
+
 def first_of_each_translation(hits):
     firsts = []
     seen = []

@@ -1,6 +1,12 @@
 """The calls on one memory of translations, handed in as one list of whole numbers."""
 
 from translations.reading import Reader
+from translations.reading import asks_in
+from translations.refusals import WRONG_INPUT
+from translations.refusals import refusal
+from translations.sentences import distance_between
+from translations.sentences import is_sentence
+from translations.sentences import nearness_of
 from translations.store import Store
 
 PUT = 0
@@ -9,6 +15,11 @@ FIND = 2
 BEST = 3
 WAY = 4
 WITH_WORD = 5
+FILL = 6
+ENTRY = 7
+COUNT = 8
+UNDO = 9
+NEAR = 10
 
 
 class UnknownCall(ValueError):
@@ -40,6 +51,16 @@ def answer_to_next(store, reader):
         return answer_to_way(store, reader)
     if call == WITH_WORD:
         return store.with_word(reader.read_number())
+    if call == FILL:
+        return answer_to_fill(store, reader)
+    if call == ENTRY:
+        return store.entry(reader.read_number())
+    if call == COUNT:
+        return store.count()
+    if call == UNDO:
+        return store.undo()
+    if call == NEAR:
+        return answer_to_near(reader)
     raise UnknownCall("no such call")
 
 
@@ -56,3 +77,18 @@ def answer_to_find(store, reader):
 def answer_to_way(store, reader):
     number = reader.read_number()
     return store.way(number, reader.read_row())
+
+
+def answer_to_fill(store, reader):
+    least = reader.read_number()
+    many = reader.read_number()
+    return store.fill(least, asks_in(reader.read_row(), many))
+
+
+# Two sentences that are handed in are no matter of the store's: no entry is asked.
+def answer_to_near(reader):
+    sentence = reader.read_row()
+    other = reader.read_row()
+    if not is_sentence(sentence) or not is_sentence(other):
+        return refusal(WRONG_INPUT)
+    return [distance_between(sentence, other), nearness_of(sentence, other)]

@@ -27,3 +27,8 @@ class Reader:
         behind = self.read_number()
         client = self.read_number()
         return Ask(ahead, behind, client, self.read_row())
+
+
+def asks_in(row, many):
+    reader = Reader(row)
+    return [reader.read_ask() for turn in range(many)]

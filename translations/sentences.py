@@ -19,6 +19,10 @@ def is_sentence_with_words(words):
     return len(words) > 0 and is_sentence(words)
 
 
+def told_sentence(words):
+    return [len(words)] + words
+
+
 # Row i, place j holds the distance of the first i words of the one
 # and the first j words of the other: the way needs all of them.
 def distance_rows(first, second):

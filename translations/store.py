@@ -2,10 +2,12 @@
 
 from translations.entries import Entry
 from translations.entries import HIGHEST_SCORE
+from translations.entries import first_told
 from translations.entries import hits_for
 from translations.entries import is_ask
 from translations.entries import same_ask
 from translations.refusals import EMPTY_MEMORY
+from translations.refusals import NOTHING_TO_UNDO
 from translations.refusals import NO_SUCH_ENTRY
 from translations.refusals import TOO_MANY_ENTRIES
 from translations.refusals import WRONG_INPUT
@@ -13,15 +15,18 @@ from translations.refusals import refusal
 from translations.sentences import distance_between
 from translations.sentences import is_sentence
 from translations.sentences import is_sentence_with_words
+from translations.sentences import told_sentence
 from translations.sentences import way_between
 
 MOST_ENTRIES = 30
+MOST_ASKS = 10
 
 
 class Store:
     # Entries stand by number: a new one has the highest number and goes to the end.
     def __init__(self):
         self.entries = []
+        self.earlier = []
         self.next_number = 1
 
     def put(self, ask, translation):
@@ -32,13 +37,13 @@ class Store:
             return refusal(TOO_MANY_ENTRIES)
         number = self.next_number
         self.next_number = number + 1
-        self.entries = others + [Entry(number, ask, translation)]
+        self.change_to(others + [Entry(number, ask, translation)])
         return [number, len(self.entries)]
 
     def take(self, number):
         if self.entry_with(number) is None:
             return refusal(NO_SUCH_ENTRY)
-        self.entries = [entry for entry in self.entries if entry.number != number]
+        self.change_to([entry for entry in self.entries if entry.number != number])
         return [len(self.entries)]
 
     def find(self, least, ask):
@@ -56,7 +61,7 @@ class Store:
         if len(self.entries) == 0:
             return refusal(EMPTY_MEMORY)
         hit = hits_for(self.entries, 0, ask)[0]
-        return [hit.score, hit.number, len(hit.translation)] + hit.translation
+        return [hit.score, hit.number] + told_sentence(hit.translation)
 
     # The document tells the missing entry ahead of the wrong sentence,
     # so that is asked first here, other than in the calls above.
@@ -75,6 +80,39 @@ class Store:
         for entry in having:
             answer.extend([entry.number, entry.ask.sentence.count(word), entry.translation.count(word)])
         return answer
+
+    def fill(self, least, asks):
+        if least > HIGHEST_SCORE or len(asks) > MOST_ASKS or not all([is_ask(ask) for ask in asks]):
+            return refusal(WRONG_INPUT)
+        firsts = [first_told(self.entries, least, ask) for ask in asks]
+        # The document tells a score of 0 with its number here, but doesn't count it as found.
+        answer = [len([first for first in firsts if first[0] > 0])]
+        for first in firsts:
+            answer.extend(first)
+        return answer
+
+    def entry(self, number):
+        entry = self.entry_with(number)
+        if entry is None:
+            return refusal(NO_SUCH_ENTRY)
+        ask = entry.ask
+        return [ask.ahead, ask.behind, ask.client] + told_sentence(ask.sentence) + told_sentence(entry.translation)
+
+    def count(self):
+        different = len(set([tuple(entry.ask.sentence) for entry in self.entries]))
+        return [len(self.entries), different, self.next_number]
+
+    # The next number stays: no number is given twice, not after undo either.
+    def undo(self):
+        if len(self.earlier) == 0:
+            return refusal(NOTHING_TO_UNDO)
+        self.entries = self.earlier.pop()
+        return [len(self.entries)]
+
+    # A list of entries is replaced by another, never changed: so undo finds the earlier ones as they were.
+    def change_to(self, entries):
+        self.earlier.append(self.entries)
+        self.entries = entries
 
     def entry_with(self, number):
         for entry in self.entries:
